@@ -1,0 +1,1 @@
+"""Evertreads: walkers that repeat their steps for ever."""

@@ -1,0 +1,9 @@
+"""The limits of what may be passed."""
+
+MOST_ORDERS = 8
+MOST_STEPS = 9
+MOST_COUNT = 100
+MOST_PERIOD = 1000
+MOST_REACH = 50
+MOST_MOVE = 1000
+GREATEST = 10 ** 30

@@ -53,6 +53,9 @@ def marked_from(period, marks, low):
 
 def stretched(period, marks, length):
     """The integers below the length, a multiple of the period, that are marked."""
+    if len(marks) == 0:
+        # a common length can be far too long to go through it for nothing
+        return []
     return [start + mark for start in range(0, length, period) for mark in marks]
 
 
@@ -102,6 +105,10 @@ def left_over(one, other):
 
 def in_either(one, other):
     """The pattern of the integers that at least one of the patterns marks."""
+    for pattern in (one, other):
+        # told without the common period, by which it can have too many marks to be gone through
+        if len(pattern[1]) == pattern[0]:
+            return pattern
     length, added = left_over(other, one)
     period, marks = one
     return length, tuple(sorted(stretched(period, marks, length) + list(added)))

@@ -126,6 +126,16 @@ class JoinedTest(unittest.TestCase):
         self.assertEqual(len(one.marks), 81)
         for k in one.ascending(81):
             self.assertTrue(all(k in times for times in rows))
+        none, every = Times(), Times(period=1, marks=(0,))
+        for result in (one | none, none | one, one - none, one & every, every & one, one & a, one | (one & a)):
+            self.assertEqual(result, one)
+        for result in (none - one, none & one, one & none, one - every, one - a, one - one):
+            self.assertEqual(parts(result), ((), 1, ()))
+        for result in (one | every, every | one):
+            self.assertEqual(parts(result), ((), 1, (0,)))
+        missing = next(k for k in range(5) if k not in one)
+        self.assertEqual(parts(one | Times(missing)), ((missing,), one.period, one.marks))
+        self.assertEqual(parts(one | Times(missing, period=1, marks=(0,))), ((missing,), 1, (0,)))
 
 
 if __name__ == "__main__":

@@ -1,4 +1,6 @@
-"""What is an integer, and what is a row of ascending ones."""
+"""What is an integer, a square, and a row of ascending integers."""
+
+from evertreads.limits import GREATEST
 
 
 def is_integer(value):
@@ -19,3 +21,12 @@ def first_unfit(row, most):
         if at > 0 and value <= row[at - 1]:
             return at
     return None
+
+
+def is_pair(value):
+    """Whether the value is a pair of integers of any size."""
+    return isinstance(value, tuple) and len(value) == 2 and is_integer(value[0]) and is_integer(value[1])
+
+
+def is_square(value):
+    return is_pair(value) and abs(value[0]) <= GREATEST and abs(value[1]) <= GREATEST

@@ -12,14 +12,24 @@ def primes_of(number):
     """The primes that divide a number of at least 1, ascending, each one once."""
     primes = []
     prime = 2
-    # periods are products of numbers up to 1000, so no prime here is a great one
-    while number > 1:
+    while prime * prime <= number:
         if number % prime == 0:
             primes.append(prime)
             while number % prime == 0:
                 number = number // prime
         prime += 1
+    if number > 1:
+        # nothing up to its root divides it, so it is a prime itself
+        primes.append(number)
     return primes
+
+
+def common_multiple(numbers):
+    """The least common multiple of all numbers in a list, 1 without any."""
+    multiple = 1
+    for number in numbers:
+        multiple = lcm(multiple, number)
+    return multiple
 
 
 def repeats(period, marks, parts):

@@ -1,14 +1,35 @@
 """The rules for the package's files that can be counted."""
 
 import ast
+import builtins
 import pathlib
 import unittest
 
 PACKAGE = pathlib.Path(__file__).resolve().parent.parent / "evertreads"
+# what the rules allow of Python's own names
+ALLOWED = set("""len range enumerate zip min max sum abs sorted reversed int str bool list tuple dict set isinstance
+                 ord repr any all divmod property Exception ValueError TypeError KeyError IndexError LookupError
+                 ZeroDivisionError ArithmeticError NotImplemented iter next object""".split())
+BANNED = set("""mro elements open input law version_info with_traceback add_note register compile copyright credits
+                delattr dir eval exec exit gc globals help id importlib license locals os quit vars sys type""".split())
+OTHER_FORMS = (ast.Import, ast.Lambda, ast.GeneratorExp, ast.Try, ast.Global, ast.Nonlocal, ast.AsyncFunctionDef,
+               ast.NamedExpr, ast.Set, ast.SetComp, ast.Match, ast.With, ast.Div)
 
 
 def files():
     return sorted(path for path in PACKAGE.rglob("*") if path.is_file() and "__pycache__" not in path.parts)
+
+
+def trees():
+    return [(path, ast.parse(path.read_bytes())) for path in files()]
+
+
+def bound_in(function):
+    """The names of the function's parameters and local variables."""
+    rest = [function.args.vararg] if function.args.vararg else []
+    names = {parameter.arg for parameter in [*function.args.args, *function.args.kwonlyargs, *rest]}
+    return names | {node.id for node in ast.walk(function)
+                    if isinstance(node, ast.Name) and isinstance(node.ctx, ast.Store)}
 
 
 class RulesTest(unittest.TestCase):
@@ -31,12 +52,70 @@ class RulesTest(unittest.TestCase):
                     self.assertLessEqual(node.end_lineno - node.lineno + 1, 40, (path, node.name))
 
     def test_imports(self):
-        for path in files():
-            for node in ast.walk(ast.parse(path.read_bytes())):
-                self.assertNotIsInstance(node, ast.Import, path)
+        places = {}
+        for path, tree in trees():
+            for node in tree.body:
+                if isinstance(node, (ast.FunctionDef, ast.ClassDef)):
+                    places.setdefault(f"evertreads.{path.stem}", set()).add(node.name)
+                elif isinstance(node, ast.Assign):
+                    places.setdefault(f"evertreads.{path.stem}", set()).add(node.targets[0].id)
+        for path, tree in trees():
+            for node in ast.walk(tree):
                 if isinstance(node, ast.ImportFrom):
                     self.assertEqual(node.level, 0, path)
-                    self.assertIn(node.module.split(".")[0], ("evertreads", "math"), path)
+                    self.assertIn(node, tree.body, path)
+                    for name in node.names:
+                        self.assertIsNone(name.asname, path)
+                        # from the very file that defines the name
+                        self.assertIn(name.name, {"math": {"gcd", "lcm"}}.get(node.module) or places[node.module], path)
+
+    def test_forms(self):
+        for path, tree in trees():
+            for node in ast.walk(tree):
+                self.assertNotIsInstance(node, OTHER_FORMS, (path, getattr(node, "lineno", 0)))
+                if isinstance(node, ast.Compare) and isinstance(node.ops[0], (ast.Is, ast.IsNot)):
+                    self.assertIsInstance(node.comparators[0], ast.Constant, (path, node.lineno))
+                if isinstance(node, ast.Call) and isinstance(node.func, ast.Name) and node.func.id == "set":
+                    self.assertEqual(len(node.args), 1, (path, node.lineno))
+                if isinstance(node, ast.Constant) and isinstance(node.value, float):
+                    self.fail((path, node.lineno))
+
+    def test_names(self):
+        # doctest adds _ to them
+        own = set(dir(builtins)) - {"_"}
+        for path, tree in trees():
+            taken = {name.name for node in tree.body if isinstance(node, ast.ImportFrom) for name in node.names}
+            taken |= {node.name for node in tree.body if isinstance(node, ast.ClassDef)}
+            for node in ast.walk(tree):
+                if isinstance(node, ast.FunctionDef):
+                    self.assertEqual(bound_in(node) & (taken | own | BANNED), set(), (path, node.name))
+                if isinstance(node, (ast.FunctionDef, ast.ClassDef)):
+                    self.assertNotIn(node.name, own | BANNED, path)
+                if isinstance(node, ast.Name) and node.id in own:
+                    self.assertIn(node.id, ALLOWED, (path, node.lineno))
+                if isinstance(node, ast.Attribute):
+                    self.assertNotIn(node.attr, BANNED, (path, node.lineno))
+
+    def test_properties_are_no_attributes_and_no_methods(self):
+        properties, methods, assigned = set(), set(), set()
+        for _, tree in trees():
+            for node in ast.walk(tree):
+                if isinstance(node, ast.ClassDef):
+                    for part in node.body:
+                        if isinstance(part, ast.FunctionDef):
+                            (properties if part.decorator_list else methods).add(part.name)
+                if isinstance(node, ast.Attribute) and isinstance(node.ctx, ast.Store):
+                    assigned.add(node.attr)
+        self.assertEqual([properties & methods, properties & assigned, methods & assigned], [set(), set(), set()])
+
+    def test_no_imports_in_a_ring(self):
+        leads = {f"evertreads.{path.stem}": {node.module for node in tree.body if isinstance(node, ast.ImportFrom)}
+                 for path, tree in trees()}
+        done = set()
+        while len(done) < len(leads):
+            ready = {name for name in leads if name not in done and leads[name] <= done | {"math"}}
+            self.assertNotEqual(ready, set())
+            done |= ready
 
 
 if __name__ == "__main__":

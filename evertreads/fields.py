@@ -116,8 +116,8 @@ def is_near(spot, square, reach):
 
 
 def places_near(line, square, reach):
-    """A range with all places on the line that are within the reach."""
+    """The places on the line that are within the reach by their x, or by their y where the line is upright."""
     px, _, x, _ = line
     if px > 0:
-        return range(-((x - square[0] + reach) // px), (square[0] + reach - x) // px + 1)
-    return range(square[1] - reach, square[1] + reach + 1)
+        return list(range(-((x - square[0] + reach) // px), (square[0] + reach - x) // px + 1))
+    return list(range(square[1] - reach, square[1] + reach + 1))

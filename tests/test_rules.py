@@ -24,6 +24,18 @@ def trees():
     return [(path, ast.parse(path.read_bytes())) for path in files()]
 
 
+def parents(tree):
+    """A dict from each node to the one in which it stands."""
+    return {child: node for node in ast.walk(tree) for child in ast.iter_child_nodes(node)}
+
+
+def called(node):
+    """The name of the function or method that is called, None for what is no call."""
+    if not isinstance(node, ast.Call):
+        return None
+    return node.func.id if isinstance(node.func, ast.Name) else node.func.attr
+
+
 def bound_in(function):
     """The names of the function's parameters and local variables."""
     rest = [function.args.vararg] if function.args.vararg else []
@@ -79,6 +91,16 @@ class RulesTest(unittest.TestCase):
                     self.assertEqual(len(node.args), 1, (path, node.lineno))
                 if isinstance(node, ast.Constant) and isinstance(node.value, float):
                     self.fail((path, node.lineno))
+
+    def test_what_is_iterated_at_once(self):
+        at_once = {"list", "tuple", "dict", "sorted", "sum", "min", "max", "enumerate", "zip"}
+        for path, tree in trees():
+            above = parents(tree)
+            for node in ast.walk(tree):
+                if called(node) in ("range", "zip", "enumerate", "reversed", "items", "keys", "values"):
+                    over = above[node]
+                    iterated = isinstance(over, (ast.For, ast.comprehension)) and over.iter is node
+                    self.assertTrue(iterated or called(over) in at_once, (path, node.lineno))
 
     def test_names(self):
         # doctest adds _ to them

@@ -54,7 +54,7 @@ class Squares:
         return isinstance(other, Squares) and not any_in_field(joined_fields(self._field, other._field, ONE))
 
     def __bool__(self):
-        return any_in_field(self._field)
+        return bool(any_in_field(self._field))
 
 
 def is_ray(part):

@@ -36,6 +36,20 @@ def called(node):
     return node.func.id if isinstance(node.func, ast.Name) else node.func.attr
 
 
+def is_truth(node):
+    """Whether the expression has one of the forms of which it is known that they give True or False."""
+    if isinstance(node, ast.BoolOp):
+        return all(is_truth(value) for value in node.values)
+    if isinstance(node, ast.IfExp):
+        return is_truth(node.body) and is_truth(node.orelse)
+    if isinstance(node, ast.Compare):
+        return len(node.ops) == 1 and isinstance(node.ops[0], (ast.In, ast.NotIn, ast.Is, ast.IsNot))
+    if isinstance(node, ast.Constant):
+        return isinstance(node.value, bool)
+    return called(node) in ("bool", "isinstance", "any", "all") or (
+        isinstance(node, ast.UnaryOp) and isinstance(node.op, ast.Not))
+
+
 def bound_in(function):
     """The names of the function's parameters and local variables."""
     rest = [function.args.vararg] if function.args.vararg else []
@@ -101,6 +115,14 @@ class RulesTest(unittest.TestCase):
                     over = above[node]
                     iterated = isinstance(over, (ast.For, ast.comprehension)) and over.iter is node
                     self.assertTrue(iterated or called(over) in at_once, (path, node.lineno))
+
+    def test_what_truths_are_made_of(self):
+        for path, tree in trees():
+            for node in ast.walk(tree):
+                if isinstance(node, ast.FunctionDef) and node.name == "__bool__":
+                    self.assertIsInstance(node.body[-1], ast.Return, (path, node.lineno))
+                    for back in [part for part in ast.walk(node) if isinstance(part, ast.Return)]:
+                        self.assertTrue(is_truth(back.value), (path, back.lineno))
 
     def test_names(self):
         # doctest adds _ to them

@@ -16,7 +16,7 @@ def laid(points, rays):
         slope, step = slope_of(dx, dy)
         line, at = line_through((x, y), slope)
         rows.setdefault(line, []).append((at, step))
-    tracks = {line: track_of(rows[line]) for line in sorted(rows)}
+    tracks = {line: track_of(rows[line]) for line in sorted(list(rows))}
     slopes = slopes_of(tracks)
     spots = {spot: any(tracks_over(tracks, slopes, spot)) for spot in crossings(tracks, tracks)}
     for point in points:

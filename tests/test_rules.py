@@ -50,6 +50,31 @@ def is_truth(node):
         isinstance(node, ast.UnaryOp) and isinstance(node.op, ast.Not))
 
 
+def tables_changed_within(function):
+    """The names of which the function changes the items, as in `rows.setdefault(k, []).append(x)`."""
+    names = set()
+    for node in ast.walk(function):
+        changed = node.func.value if isinstance(node, ast.Call) and isinstance(node.func, ast.Attribute) else None
+        if changed is not None and node.func.attr in ("append", "extend", "insert", "pop", "remove", "update"):
+            if called(changed) == "setdefault":
+                changed = ast.Subscript(changed.func.value)
+            if isinstance(changed, ast.Subscript) and isinstance(changed.value, ast.Name):
+                names.add(changed.value.id)
+    return names
+
+
+def is_harmless(name, above):
+    """Whether the name is assigned, or what it names is only indexed, iterated, measured, copied or returned here."""
+    over = above[name]
+    if isinstance(over, ast.Attribute):
+        return over.attr in ("setdefault", "get", "items", "keys", "values", "copy")
+    if isinstance(over, (ast.For, ast.comprehension)):
+        return over.iter is name
+    if isinstance(over, ast.Assign):
+        return over.value is not name
+    return called(over) in ("len", "list", "dict") or isinstance(over, (ast.Return, ast.Subscript))
+
+
 def bound_in(function):
     """The names of the function's parameters and local variables."""
     rest = [function.args.vararg] if function.args.vararg else []
@@ -123,6 +148,15 @@ class RulesTest(unittest.TestCase):
                     self.assertIsInstance(node.body[-1], ast.Return, (path, node.lineno))
                     for back in [part for part in ast.walk(node) if isinstance(part, ast.Return)]:
                         self.assertTrue(is_truth(back.value), (path, back.lineno))
+
+    def test_tables_whose_items_are_changed(self):
+        for path, tree in trees():
+            above = parents(tree)
+            for function in [node for node in ast.walk(tree) if isinstance(node, ast.FunctionDef)]:
+                tables = tables_changed_within(function)
+                for node in ast.walk(function):
+                    if isinstance(node, ast.Name) and node.id in tables:
+                        self.assertTrue(is_harmless(node, above), (path, node.lineno))
 
     def test_names(self):
         # doctest adds _ to them

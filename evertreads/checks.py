@@ -1,6 +1,8 @@
-"""What is an integer, a square, and a row of ascending integers."""
+"""What is an integer, a square, a time, a name, and a row of ascending integers."""
 
 from evertreads.limits import GREATEST
+
+MOST_LETTERS = 8
 
 
 def is_integer(value):
@@ -30,3 +32,13 @@ def is_pair(value):
 
 def is_square(value):
     return is_pair(value) and abs(value[0]) <= GREATEST and abs(value[1]) <= GREATEST
+
+
+def is_time(value):
+    return is_within(value, 0, GREATEST)
+
+
+def is_name(value):
+    if not isinstance(value, str) or not 1 <= len(value) <= MOST_LETTERS:
+        return False
+    return all(["a" <= sign <= "z" for sign in value])

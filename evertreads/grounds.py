@@ -61,19 +61,28 @@ def seen(way, square):
     return y, -x
 
 
+def outlook(ground, way):
+    """A triple (way, drift, first trodden squares of all lanes), seen by one who looks this way."""
+    return way, seen(way, ground.shift), [seen(way, first) for first in ground.begun_lanes()]
+
+
 def outlooks(ground):
-    """For each way a triple (way, drift, first trodden squares of all lanes), seen by one who looks this way."""
-    firsts = ground.begun_lanes()
-    return [(way, seen(way, ground.shift), [seen(way, first) for first in firsts]) for way in MOVES]
+    return [outlook(ground, way) for way in MOVES]
 
 
 def clear_way(views, square):
     """The first way in which one can go straight on from the square for ever, None if there is none."""
-    for way, gain, firsts in views:
-        spot = seen(way, square)
-        if not any([comes_ahead(first, gain, spot) for first in firsts]):
-            return way
+    for view in views:
+        if is_clear(view, square):
+            return view[0]
     return None
+
+
+def is_clear(view, square):
+    """Whether one can go straight on from the square for ever in the way of the view."""
+    way, gain, firsts = view
+    spot = seen(way, square)
+    return not any([comes_ahead(first, gain, spot) for first in firsts])
 
 
 def comes_ahead(first, gain, spot):

@@ -9,7 +9,7 @@ from evertreads.walkers import Walker, along_lanes, from_start, to_start
 
 def chamber(walker, square):
     """The squares of the chamber of the square, ascending; None if it is trodden or not shut in."""
-    check(walker, square)
+    check_walker_and_square(walker, square)
     ground = ground_of(walker)
     offset = to_start(walker, square)
     if ground.is_trodden(offset):
@@ -32,7 +32,7 @@ def way_out(walker, square):
 
     A pair of the squares on it and the way; None if the square is trodden or shut in.
     """
-    check(walker, square)
+    check_walker_and_square(walker, square)
     ground = ground_of(walker)
     offset = to_start(walker, square)
     if ground.is_trodden(offset) or pocket(ground, offset) is not None:
@@ -64,7 +64,7 @@ def shortest_way(ground, square):
     return row[::-1], way
 
 
-def check(walker, square):
+def check_walker_and_square(walker, square):
     if not isinstance(walker, Walker):
         raise NotAWalker(walker)
     if not is_square(square):

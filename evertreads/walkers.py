@@ -1,6 +1,6 @@
 """Walkers that follow a row of orders again and again."""
 
-from evertreads.checks import is_square, is_within
+from evertreads.checks import is_square, is_time, is_within
 from evertreads.errors import InvalidCount, InvalidMove, InvalidRow, InvalidSquare, InvalidTime, InvalidWay
 from evertreads.lanes import lane_of, lanes_trodden, square_in
 from evertreads.limits import GREATEST, MOST_COUNT
@@ -64,13 +64,13 @@ class Walker:
 
     def at(self, time):
         """The square on which the walker stands."""
-        if not is_within(time, 0, GREATEST):
+        if not is_time(time):
             raise InvalidTime(time)
         return square_at(self, time)
 
     def goes(self, time):
         """The way in which the walker goes from this time to the next one."""
-        if not is_within(time, 0, GREATEST):
+        if not is_time(time):
             raise InvalidTime(time)
         return self._ways[time % len(self._ways)]
 

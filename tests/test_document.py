@@ -3,6 +3,8 @@
 import doctest
 import unittest
 
+from evertreads.errors import Broken
+
 TIMES = r"""
 >>> from evertreads.times import Times
 >>> odd, some = Times(period=2, marks=(1,)), Times(2, 3, 10 ** 20)
@@ -42,6 +44,42 @@ SHUT = r"""
 [((1, 1), (1, 2), (2, 1), (2, 2)), True, None, (((1, 1),), 'N'), None]
 """
 
+YARDS = r"""
+>>> from evertreads.walkers import Walker
+>>> from evertreads.yards import Yard
+>>> yard = Yard()
+>>> done = yard.do_all(("set", "a", Walker("2 R")), ("set", "b", Walker("1", (5, 0))), ("claim", ("apart", "a", "b")), ("claim", ("shut", "a", (1, 1))))
+>>> yard.undo()
+>>> [done, yard.names, yard.claims, yard.changes, yard.tried(len), yard.undo(), len(yard.claims)]
+[4, ('a', 'b'), (('apart', 'a', 'b'),), 3, 2, None, 0]
+"""
+
+BROKEN = r"""
+>>> from evertreads.walkers import Walker
+>>> from evertreads.yards import Yard
+>>> yard = Yard()
+>>> done = yard.do_all(("set", "a", Walker("1")), ("set", "b", Walker("1", (-5, 5), "E")))
+>>> yard.claim(("never", "a", "b"))
+raises Broken(index=0)
+"""
+
+CERTIFICATES = r"""
+>>> from evertreads.certificates import certify_meeting, certify_pair, certify_square
+>>> from evertreads.checker import accepts
+>>> from evertreads.walkers import Walker
+>>> ring, line = Walker("2 R"), Walker("1", (0, 1))
+>>> claim, paper = certify_square(ring, (1, 1))
+>>> [claim, paper, accepts(claim, paper), accepts(claim, ()), certify_meeting(line, ring), certify_pair(ring, line)]
+[('shut', ('2 R', (0, 0), 'N'), (1, 1)), ((1, 1),), True, False, (('never', ('1', (0, 1), 'N'), ('2 R', (0, 0), 'N')), ()), None]
+"""
+
+CONSOLE = r"""
+>>> from evertreads.console import Console
+>>> console = Console()
+>>> [console.say("a = 2 R from 0,0 to N"), console.say("b = 1 from -5,1 to E"), console.say("a at 11"), console.say("a on 0,2"), console.say("b on 3,1"), console.say("a meets b"), console.say("a shut 1,1"), console.say("c = b turned")]
+['2 R from 0,0 to N', '1 from -5,1 to E', '1,2', 'endless', '1', 'never', 'ok', '1 from 1,5 to S']
+"""
+
 
 class ExamplesTest(unittest.TestCase):
     def as_told(self, text):
@@ -65,6 +103,26 @@ class ExamplesTest(unittest.TestCase):
 
     def test_shut(self):
         self.as_told(SHUT)
+
+    def test_yards(self):
+        self.as_told(YARDS)
+
+    def test_broken(self):
+        # told as an error of the last row
+        rows, error = BROKEN.split("raises ")
+        self.assertEqual(error, "Broken(index=0)\n")
+        head, last = rows.rsplit(">>> ", 1)
+        names = {}
+        exec(head.replace(">>> ", ""), names)
+        with self.assertRaises(Broken) as caught:
+            exec(last, names)
+        self.assertEqual([type(caught.exception), caught.exception.index], [Broken, 0])
+
+    def test_certificates(self):
+        self.as_told(CERTIFICATES)
+
+    def test_console(self):
+        self.as_told(CONSOLE)
 
 
 if __name__ == "__main__":

@@ -12,8 +12,8 @@ ALLOWED = set("""len range enumerate zip min max sum abs sorted reversed int str
                  ZeroDivisionError ArithmeticError NotImplemented iter next object""".split())
 BANNED = set("""mro elements open input law version_info with_traceback add_note register compile copyright credits
                 delattr dir eval exec exit gc globals help id importlib license locals os quit vars sys type""".split())
-OTHER_FORMS = (ast.Import, ast.Lambda, ast.GeneratorExp, ast.Try, ast.Global, ast.Nonlocal, ast.AsyncFunctionDef,
-               ast.NamedExpr, ast.Set, ast.SetComp, ast.Match, ast.With, ast.Div)
+OTHER_FORMS = (ast.Import, ast.Lambda, ast.GeneratorExp, ast.ExceptHandler, ast.Global, ast.Nonlocal, ast.Div,
+               ast.AsyncFunctionDef, ast.NamedExpr, ast.Set, ast.SetComp, ast.Match)
 
 
 def files():
@@ -54,12 +54,11 @@ def tables_changed_within(function):
     """The names of which the function changes the items, as in `rows.setdefault(k, []).append(x)`."""
     names = set()
     for node in ast.walk(function):
-        changed = node.func.value if isinstance(node, ast.Call) and isinstance(node.func, ast.Attribute) else None
-        if changed is not None and node.func.attr in ("append", "extend", "insert", "pop", "remove", "update"):
-            if called(changed) == "setdefault":
-                changed = ast.Subscript(changed.func.value)
-            if isinstance(changed, ast.Subscript) and isinstance(changed.value, ast.Name):
-                names.add(changed.value.id)
+        if called(node) in ("append", "extend", "insert", "pop", "remove", "update"):
+            changed = node.func.value
+            item = changed.func if called(changed) == "setdefault" else changed
+            if item is not changed or isinstance(item, ast.Subscript):
+                names.add(ast.unparse(item.value))
     return names
 
 
@@ -140,6 +139,27 @@ class RulesTest(unittest.TestCase):
                     over = above[node]
                     iterated = isinstance(over, (ast.For, ast.comprehension)) and over.iter is node
                     self.assertTrue(iterated or called(over) in at_once, (path, node.lineno))
+
+    def test_rows_that_run_behind_errors(self):
+        for path, tree in trees():
+            for node in ast.walk(tree):
+                last = node.finalbody if isinstance(node, ast.Try) else []
+                if isinstance(node, ast.FunctionDef) and node.name == "__exit__":
+                    last = node.body
+                for row in last:
+                    self.assertIsInstance(row, ast.Assign, (path, row.lineno))
+                    self.assertIsInstance(row.targets[0], (ast.Name, ast.Attribute), (path, row.lineno))
+                    self.assertIsInstance(row.value, (ast.Name, ast.Attribute), (path, row.lineno))
+
+    def test_items_without_iteration(self):
+        for path, tree in trees():
+            for node in ast.walk(tree):
+                if isinstance(node, ast.ClassDef):
+                    methods = {part.name: part for part in node.body if isinstance(part, ast.FunctionDef)}
+                    if "__getitem__" in methods:
+                        self.assertIsInstance(methods["__iter__"].body[0], ast.Raise, (path, node.lineno))
+                    if "__len__" in methods:
+                        self.assertEqual(called(methods["__len__"].body[-1].value), "len", (path, node.lineno))
 
     def test_what_truths_are_made_of(self):
         for path, tree in trees():

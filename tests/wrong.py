@@ -25,6 +25,10 @@ TOO_FAR = ((FAR + 1, 0), (0, FAR + 1), (-FAR - 1, 0), (0, -FAR - 1), (10 ** 79, 
 NO_SQUARES = NO_PAIRS + TOO_FAR + ((0, 0, 1, 0),)
 NO_WALKERS = (True, None, 0, "", "2 R", b"2 R", ("2 R", (0, 0), "N"), [], {}, object(), Same(), Times(), Squares())
 
+NO_NAMES = (True, False, None, 0, 1, "", "A", "aB", "abcdefghi", "a b", " a", "a ", "a1", "1", "a-b", "a.", "a\n", "\n",
+            "\u00e4", "\u0430", "\u00df", "`", "{", "a\x00", b"a", ("a",), ("a", "b"), (), ["a"], [], {}, {"a": 1},
+            {"a"}, object(), str, len, range(2), slice(0, 1), Same(), Times(), Squares(), InvalidCount("a"))
+
 
 class RefusingTest(unittest.TestCase):
     def refused(self, kind, value, call, *args, **more):
@@ -33,3 +37,11 @@ class RefusingTest(unittest.TestCase):
             call(*args, **more)
         self.assertIs(type(caught.exception), kind)
         self.assertIs(caught.exception.given, value)
+
+    def refused_at(self, kind, index, call, *args, **more):
+        """The call raises the error with this index."""
+        with self.assertRaises(kind) as caught:
+            call(*args, **more)
+        self.assertIs(type(caught.exception), kind)
+        self.assertIs(type(caught.exception.index), int)
+        self.assertEqual(caught.exception.index, index)

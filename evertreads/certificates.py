@@ -2,7 +2,7 @@
 
 from evertreads.facts import are_apart, treads_within
 from evertreads.limits import GREATEST
-from evertreads.meeting import check_walkers, meeting
+from evertreads.meeting import meeting
 from evertreads.shut import chamber, check_walker_and_square, way_out
 
 
@@ -20,7 +20,6 @@ def certify_square(walker, square):
 
 def certify_meeting(walker, other):
     """That they meet at their first time, or never; None if this is too great for a time."""
-    check_walkers(walker, other)
     time = meeting(walker, other).first
     if time is None:
         return ("never", told(walker), told(other)), ()
@@ -31,7 +30,6 @@ def certify_meeting(walker, other):
 
 def certify_pair(walker, other):
     """That they tread no common square, or that the first one treads only squares of the other; else None."""
-    check_walkers(walker, other)
     if are_apart(walker, other):
         return ("apart", told(walker), told(other)), ()
     if treads_within(walker, other):

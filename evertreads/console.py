@@ -1,7 +1,6 @@
 """A console that changes a yard, and asks about it, by lines of text."""
 
-from evertreads.claims import PAIR_WORDS
-from evertreads.errors import InvalidText, UnknownName
+from evertreads.errors import InvalidText
 from evertreads.meeting import meeting
 from evertreads.sentences import read_line
 from evertreads.walkers import Walker
@@ -23,26 +22,12 @@ class Console:
         said = read_line(line)
         if said is None:
             raise InvalidText(line)
-        for name in names_needed(said):
-            if name not in self._yard:
-                raise UnknownName(name)
         return answer(self._yard, said)
 
 
-def names_needed(said):
-    """The names, from the left, that the yard must have."""
-    word = said[0]
-    if word in ("undo", "set"):
-        return ()
-    if word in ("turned", "mirrored"):
-        return said[2:]
-    if word == "meets" or word in PAIR_WORDS:
-        return said[1:]
-    return said[1:2]
-
-
 def answer(yard, said):
-    """Do what was said, and tell the text about it."""
+    """Do what was said, and tell the text about it. The yard is asked for the names in their order, so it refuses the
+    first one that it does not have."""
     word = said[0]
     if word in ("set", "turned", "mirrored"):
         yard[said[1]] = walker_said(yard, said)
